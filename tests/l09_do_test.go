@@ -245,14 +245,19 @@ func TestOpPartFirstCode(t *testing.T) {
 	}
 }
 
+func sharesIn(l []impl.Env) []impl.Share {
+	var out []impl.Share
+	for _, e := range l {
+		out = append(out, impl.Share{X: e.X, Text: e.Text})
+	}
+	return out
+}
+
 // Each choice of as many envelopes as are needed, in each order, opens; one that is given too much tells that it is open.
 func TestOpGiveOpens(t *testing.T) {
 	for _, h := range []held{begun("master", 1, 1), begun("m", 1, 3), begun("master", 2, 4), begun("\x00\xff", 3, 5), begun(checkIsNought, 4, 4), begun("master", 2, 3).at(impl.MaxTime), begun("master", 2, 3).at(impl.MaxTime - 1)} {
 		need := int(h.vault.Book.Conf.Need)
-		var shares []impl.Share
-		for _, e := range h.envs {
-			shares = append(shares, impl.Share{X: e.X, Text: e.Text})
-		}
+		shares := sharesIn(h.envs)
 		for bits := range 1 << len(shares) {
 			if l := chosen(shares, bits); len(l) == need {
 				inAllOrders(l, 0, func(l []impl.Share) { giveAll(t, h, l) })
@@ -522,10 +527,7 @@ func TestOpPartDone(t *testing.T) {
 // Those of OpPart are given one by one, in each order; fewer than are needed do nothing yet, and need no draws.
 func TestOpPartOneByOne(t *testing.T) {
 	h := begun("master", 3, 4).opened().by(rekeyOp(2, 2))
-	var shares []impl.Share
-	for _, e := range h.envs {
-		shares = append(shares, impl.Share{X: e.X, Text: e.Text})
-	}
+	shares := sharesIn(h.envs)
 	draws := someDraws(6, 4)
 	for bits := range 1 << len(shares) {
 		if l := chosen(shares, bits); len(l) == 3 {

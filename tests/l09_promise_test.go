@@ -144,6 +144,18 @@ func (l *life) opens(t *testing.T) {
 	}
 }
 
+// wantToldByEach asks that in some lives each kind of op was done often enough, torn and not torn.
+func wantToldByEach(t *testing.T, told map[string]int) {
+	t.Helper()
+	for kind := impl.OpGive; kind <= impl.OpReboot; kind++ {
+		for _, torn := range []bool{false, true} {
+			if done := told[fmt.Sprint(kind, torn)]; done < 5 {
+				t.Errorf("kind %d, torn %v: done just %d times", kind, torn, done)
+			}
+		}
+	}
+}
+
 // Promise 11: whatever is asked, given, locked anew, parted anew, crashed in the midst and torn anywhere: what is in it is what
 // was put, and not deleted since, and so many parts of now as are needed open it.
 func TestWhatIsInIt(t *testing.T) {
@@ -160,13 +172,7 @@ func TestWhatIsInIt(t *testing.T) {
 			l.opens(t)
 		}
 	}
-	for kind := impl.OpGive; kind <= impl.OpReboot; kind++ {
-		for _, torn := range []bool{false, true} {
-			if told[fmt.Sprint(kind, torn)] < 5 {
-				t.Errorf("kind %d, torn %v: done just %d times", kind, torn, told[fmt.Sprint(kind, torn)])
-			}
-		}
-	}
+	wantToldByEach(t, told)
 }
 
 // Promise 11: of each op, torn at each keep, what is in it is what it was ahead of the op, or behind it; the parts that open it are
